@@ -1,0 +1,56 @@
+"""The interface: how calls are read and answers written."""
+
+import unittest
+
+import helper
+from wordboard.board import answers
+
+LOWEST = -2147483648
+HIGHEST = 2147483647
+
+
+class Interface(unittest.TestCase):
+    def test_one_clear(self):
+        self.assertEqual(answers([1]), [1, 0])
+
+    def test_several_calls_written_out(self):
+        calls = [1, 2, 2, 65, 66, 2, 2, 97, 98, 2, 0, 3, 7, 7, 0, 2, 65, 66, 2, 65, 66, 1, 2, 2, 65, 66]
+        self.assertEqual(answers(calls), [1, 0, 1, 1, 1, 0, 1, -1, 1, 8, 1, 0, 1, 1])
+
+    def test_empty_rows_take_one_number(self):
+        calls = [1, 3, 7, 7, 0, 0, 0, 2, 0, 3, 7, 7, 0, 2, 65, 66, 0, 1]
+        self.assertEqual(answers(calls), [1, 0, 1, -1, 1, -1, 1, -3, 1, 0])
+
+    def test_refused_calls_are_read_to_their_end(self):
+        calls = helper.clear() + helper.score(LOWEST, HIGHEST, LOWEST, [0] * 15, [255] * 7) + helper.word([1] * 15)
+        self.assertEqual(answers(calls + helper.word("AB")), [1, 0, 1, -1, 1, -1, 1, 1])
+
+    def test_what_is_handed_in_stays(self):
+        calls = helper.clear() + helper.word("ab") + helper.score(7, 7, 1, "aB", "B?A")
+        before = list(calls)
+        self.assertEqual(answers(calls), [1, 0, 1, 1, 1, 6])
+        self.assertEqual(calls, before)
+
+    def test_nothing_is_kept_from_one_time_to_the_next(self):
+        calls = helper.clear() + helper.word("AB") + helper.score(7, 7, 0, "AB", "AB")
+        first = answers(calls)
+        kept = list(first)
+        second = answers(calls)
+        self.assertEqual(second, kept)
+        self.assertEqual(first, kept)
+        self.assertIsNot(first, second)
+        self.assertEqual(answers([1] + helper.score(7, 7, 0, "AB", "AB")), [1, 0, 1, -5])
+
+    def test_answers_are_whole_numbers(self):
+        given = answers(helper.clear() + helper.word("AB") + helper.word("ab") + helper.score(7, 7, 0, "AB", "AB"))
+        self.assertEqual([type(number) for number in given], [int] * 8)
+
+    def test_four_hundred_calls(self):
+        calls = helper.clear()
+        for k in range(399):
+            calls = calls + helper.word([65 + k // 26, 65 + k % 26])
+        self.assertEqual(answers(calls), [1, 0] + [1, 1] * 399)
+
+
+if __name__ == "__main__":
+    unittest.main()
