@@ -1,4 +1,4 @@
-"""The rules of ../shared/LANGUAGE.md that can be seen in the package's text (its numbers stand beside each)."""
+"""Some of the rules of ../shared/LANGUAGE.md, as far as a walk through the text shows them; not L13, L19, L22, L24, L28."""
 
 import ast
 import builtins
