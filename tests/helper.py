@@ -1,8 +1,27 @@
-"""Calls written as texts, and games with letters on the board already."""
+"""Calls written as texts, games with letters on the board already, and a picture of how squares fold."""
 
 from wordboard.board import answers
 from wordboard.game import Game
 from wordboard.laying import Laying
+
+
+# One quarter of the board and its middle lines; T, D fold words, t, d letters.
+QUARTER = (
+    "T..d...T",
+    ".D...t..",
+    "..D...d.",
+    "d..D...d",
+    "....D...",
+    ".t...t..",
+    "..d...d.",
+    "T..d...D",
+)
+WORD_FOLD = {"T": 3, "D": 2}
+LETTER_FOLD = {"t": 3, "d": 2}
+
+
+def fold_sign(x, y):
+    return QUARTER[min(y, 14 - y)][min(x, 14 - x)]
 
 
 def as_bytes(text):
@@ -27,6 +46,18 @@ def score(x, y, down, text, rack):
     return [3, x, y, down] + row(text) + row(rack)
 
 
+def play(x, y, down, text, rack):
+    return [4, x, y, down] + row(text) + row(rack)
+
+
+def best(rack):
+    return [5] + row(rack)
+
+
+def board():
+    return [6]
+
+
 def split(given):
     """The list that is given back, as one list of numbers for each call."""
     parts = []
@@ -37,14 +68,29 @@ def split(given):
     return parts
 
 
-def ask(*calls):
-    """What each call is answered, behind a clear; each is one number."""
+def ask_parts(*calls):
+    """What each call is answered, behind a clear, as one list of numbers for each."""
     numbers = clear()
     for call in calls:
         numbers = numbers + call
-    parts = split(answers(numbers))
+    return split(answers(numbers))[1:]
+
+
+def ask(*calls):
+    """What each call is answered, behind a clear; each is one number."""
+    parts = ask_parts(*calls)
     assert all(len(part) == 1 for part in parts), parts
-    return [part[0] for part in parts][1:]
+    return [part[0] for part in parts]
+
+
+def told_best(count, x, y, down, text):
+    """What best is answered, written out."""
+    return [count, x, y, down, len(text)] + as_bytes(text) + [0] * (15 - len(text))
+
+
+def told_board(*laid):
+    """What board is answered with letters laid: each as x, y, down, text."""
+    return [0] + game_with("", *laid).squares
 
 
 def score_first(words, x, y, down, text, rack):
@@ -69,3 +115,7 @@ def game_with(words, *laid):
 
 def score_on(game, x, y, down, text, rack):
     return game.score(Laying(x, y, down, as_bytes(text), as_bytes(rack)))
+
+
+def best_on(game, rack):
+    return game.best_told(as_bytes(rack))

@@ -2,26 +2,8 @@
 
 import unittest
 
-from helper import as_bytes, game_with, score_on
+from helper import LETTER_FOLD, WORD_FOLD, as_bytes, fold_sign, game_with, score_on
 from wordboard.laying import Laying, crossing_word
-
-# One quarter of the board and its middle lines; T, D fold words, t, d letters.
-QUARTER = (
-    "T..d...T",
-    ".D...t..",
-    "..D...d.",
-    "d..D...d",
-    "....D...",
-    ".t...t..",
-    "..d...d.",
-    "T..d...D",
-)
-WORD_FOLD = {"T": 3, "D": 2}
-LETTER_FOLD = {"t": 3, "d": 2}
-
-
-def fold_sign(x, y):
-    return QUARTER[min(y, 14 - y)][min(x, 14 - x)]
 
 
 class Fits(unittest.TestCase):

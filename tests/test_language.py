@@ -186,7 +186,12 @@ class Forms(unittest.TestCase):
         for place, node in nodes(ast.FormattedValue):
             self.assertIsInstance(node.value, ast.Name, place)
             self.assertIsNone(node.format_spec, place)
-        for place, node in nodes(ast.Div, ast.Is, ast.IsNot, ast.Pow, ast.Set):
+        for place, node in nodes(ast.Compare):
+            for operator, beside in zip(node.ops, node.comparators):
+                if isinstance(operator, (ast.Is, ast.IsNot)):
+                    self.assertIsInstance(beside, ast.Constant, place)
+                    self.assertIn(type(beside.value), (bool, type(None)), place)
+        for place, node in nodes(ast.Div, ast.Pow, ast.Set):
             self.fail((place, node))
 
     def test_walked_at_once(self):  # L23

@@ -6,6 +6,8 @@ from wordboard.laying import Laying
 CLEAR = 1
 WORD = 2
 SCORE = 3
+PLAY = 4
+BEST = 5
 
 
 class Reader:
@@ -47,8 +49,12 @@ def answer_next(game, reader):
         return [game.take_word(reader.read_row())]
     if call == SCORE:
         return [game.score(reader.read_laying())]
-    # play, best and board are still to come; to go on would give wrong answers for what stands behind.
-    raise NotImplementedError(f"call {call} is not built")
+    if call == PLAY:
+        return [game.play(reader.read_laying())]
+    if call == BEST:
+        return game.best_told(reader.read_row())
+    # Nothing but board, 6, is left.
+    return game.board_told()
 
 
 def answers(calls):

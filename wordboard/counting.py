@@ -1,46 +1,32 @@
-"""What a laid word counts, with its crossing words."""
+"""What a laid word counts, with its crossing words, on the spots under it: one for each of its letters."""
 
-from wordboard.laying import crossing_word, laid_places
 from wordboard.letters import MOST_ON_RACK, points_of
-from wordboard.squares import letter_fold, word_fold
 
 ALL_LAID_BONUS = 50
 
 
-def points_of_all(letters):
-    return sum([points_of(letter) for letter in letters])
-
-
-def fold_of_word(laying, place):
-    return word_fold(laying.x_of(place), laying.y_of(place))
-
-
-def gain_by_fold(laying, place):
-    """What the square under a laid letter adds to that letter's own points."""
-    fold = letter_fold(laying.x_of(place), laying.y_of(place))
-    return (fold - 1) * points_of(laying.word[place])
-
-
-def count_of_word(laying, places):
-    total = points_of_all(laying.word)
+def fold_by_spots(spots):
+    """How many times the word is counted: only squares that are laid on now fold."""
     fold = 1
-    for place in places:
-        total = total + gain_by_fold(laying, place)
-        fold = fold * fold_of_word(laying, place)
-    return total * fold
+    for spot in spots:
+        if spot.is_empty:
+            fold = fold * spot.word_fold
+    return fold
 
 
-def count_of_crossing(squares, laying, place):
-    crossing = crossing_word(squares, laying, place)
-    if crossing == []:
-        return 0
-    return (points_of_all(crossing) + gain_by_fold(laying, place)) * fold_of_word(laying, place)
+def bonus_for(spots):
+    laid = len([spot for spot in spots if spot.is_empty])
+    return ALL_LAID_BONUS if laid == MOST_ON_RACK else 0
 
 
-def count_of_laying(squares, laying):
-    places = laid_places(squares, laying)
-    total = count_of_word(laying, places)
-    total = total + sum([count_of_crossing(squares, laying, place) for place in places])
-    if len(places) == MOST_ON_RACK:
-        total = total + ALL_LAID_BONUS
-    return total
+def count_of_word(spots, word):
+    total = 0
+    crossings = 0
+    for spot, letter in zip(spots, word):
+        points = points_of(letter)
+        if spot.is_empty:
+            points = points * spot.letter_fold
+            if spot.is_crossed:
+                crossings = crossings + (spot.crossing_points + points) * spot.word_fold
+        total = total + points
+    return total * fold_by_spots(spots) + crossings + bonus_for(spots)

@@ -1,9 +1,10 @@
 """One game: the words that there are, the board, and the calls on them."""
 
-from wordboard.counting import count_of_laying
-from wordboard.laying import crossing_words, fits, is_from_rack, is_proper, touches
-from wordboard.letters import MOST_LETTERS, all_letters, without_case
-from wordboard.squares import empty_squares
+from wordboard.counting import count_of_word
+from wordboard.laying import crossing_words, fits, is_from_rack, is_proper, spots_under, touches
+from wordboard.letters import MOST_LETTERS, all_letters, is_rack, without_case
+from wordboard.search import best_laying
+from wordboard.squares import empty_squares, put_letter
 
 MOST_WORDS = 4096
 
@@ -48,4 +49,27 @@ class Game:
             return -4
         if not self.has_all_words(laying):
             return -5
-        return count_of_laying(self.squares, laying)
+        return count_of_word(spots_under(self.squares, laying), laying.word)
+
+    def play(self, laying):
+        count = self.score(laying)
+        if count >= 0:
+            self.lay(laying)
+        return count
+
+    def lay(self, laying):
+        for place, letter in enumerate(laying.word):
+            put_letter(self.squares, laying.x_of(place), laying.y_of(place), letter)
+
+    def best_told(self, rack):
+        """The numbers that best is answered with."""
+        if not is_rack(rack):
+            return [-1]
+        best = best_laying(self.squares, self.words, rack)
+        if best is None:
+            return [-6]
+        length = len(best.word)
+        return [self.score(best), best.x, best.y, best.down, length] + best.word + [0] * (MOST_LETTERS - length)
+
+    def board_told(self):
+        return [0] + self.squares

@@ -1,7 +1,8 @@
 """What may be laid: a word from a square on, judged against the squares as they are."""
 
 from wordboard.letters import MOST_LETTERS, all_letters, is_rack, taken_from_rack
-from wordboard.squares import EMPTY, MIDDLE, all_empty, letter_at, letters_from, on_board
+from wordboard.spots import Spot, spots_from
+from wordboard.squares import EMPTY, MIDDLE, all_empty, letter_at, on_board
 
 
 class Laying:
@@ -68,17 +69,14 @@ def is_from_rack(squares, laying):
     return True
 
 
+def spots_under(squares, laying):
+    return spots_from(squares, laying.x, laying.y, laying.down, len(laying.word))
+
+
 def crossing_word(squares, laying, place):
     """The run the other way through a letter that is laid; empty if that letter would be alone in it."""
-    x = laying.x_of(place)
-    y = laying.y_of(place)
-    step_x = laying.down
-    step_y = 1 - laying.down
-    before = letters_from(squares, x - step_x, y - step_y, -step_x, -step_y)
-    behind = letters_from(squares, x + step_x, y + step_y, step_x, step_y)
-    if before == [] and behind == []:
-        return []
-    return list(reversed(before)) + [laying.word[place]] + behind
+    spot = Spot(squares, laying.x_of(place), laying.y_of(place), laying.down)
+    return spot.crossing_with(laying.word[place])
 
 
 def crossing_words(squares, laying):

@@ -36,6 +36,10 @@ def capital_of(letter):
     return letter - CASE_STEP if is_small(letter) else letter
 
 
+def small_of(capital):
+    return capital + CASE_STEP
+
+
 def without_case(word):
     """The word as a tuple of capitals, so that it can be a key."""
     return tuple([capital_of(letter) for letter in word])
@@ -49,3 +53,7 @@ def taken_from_rack(letter):
 def points_of(letter):
     # A small letter is a blank wherever it stands, on the board too.
     return 0 if is_small(letter) else POINTS[letter - CAPITAL_A]
+
+
+def points_of_all(letters):
+    return sum([points_of(letter) for letter in letters])

@@ -26,6 +26,10 @@ def letter_at(squares, x, y):
     return squares[y * SIZE + x] if on_board(x, y) else EMPTY
 
 
+def put_letter(squares, x, y, letter):
+    squares[y * SIZE + x] = letter
+
+
 def letters_from(squares, x, y, step_x, step_y):
     """The letters from x, y on, step by step, up to the first empty square."""
     letters = []
